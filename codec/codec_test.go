@@ -10,37 +10,23 @@ import (
 
 	"tributary/api"
 	"tributary/codec"
+	"tributary/sample"
 	"tributary/value"
 	"tributary/varint"
 )
 
 // Values are put together as they are, so that lists may be empty or may not be.
-var null = api.Value{Kind: api.KindNull}
+var (
+	null, number  = sample.Null(), sample.Number
+	text, raw     = sample.Text, sample.Bytes
+	array, doc    = sample.Array, sample.Doc
+	within, alike = sample.Levels, sample.Alike
+)
 
-func number(x int) api.Value         { return api.Value{Kind: api.KindInt, Int: x} }
-func text(s string) api.Value        { return api.Value{Kind: api.KindText, Text: s} }
-func raw(s string) api.Value         { return api.Value{Kind: api.KindBytes, Text: s} }
-func truth(x int) api.Value          { return api.Value{Kind: api.KindBool, Int: x} }
-func array(l ...api.Value) api.Value { return api.Value{Kind: api.KindArray, Items: l} }
-func names(l ...string) []string     { return l }
-
-func doc(names []string, l ...api.Value) api.Value {
-	return api.Value{Kind: api.KindDoc, Names: names, Items: l}
-}
+func truth(x int) api.Value      { return api.Value{Kind: api.KindBool, Int: x} }
+func names(l ...string) []string { return l }
 
 func letters(n int) string { return strings.Repeat("x", n) }
-
-// within is v in so many lists, arrays and documents by turns.
-func within(v api.Value, levels int) api.Value {
-	for i := range levels {
-		if i%2 == 0 {
-			v = array(v)
-		} else {
-			v = doc(names("a"), v)
-		}
-	}
-	return v
-}
 
 // known are whole values of every kind, with their codes and texts as the chapter's words say.
 var known = []struct {
@@ -143,24 +129,6 @@ func many(n int) []api.Value {
 		l[i] = null
 	}
 	return l
-}
-
-// alike tells whether all fields of a and b are the same; nil and the empty list are.
-func alike(a, b api.Value) bool {
-	if a.Kind != b.Kind || a.Int != b.Int || a.Text != b.Text || len(a.Items) != len(b.Items) || len(a.Names) != len(b.Names) {
-		return false
-	}
-	for i := range a.Names {
-		if a.Names[i] != b.Names[i] {
-			return false
-		}
-	}
-	for i := range a.Items {
-		if !alike(a.Items[i], b.Items[i]) {
-			return false
-		}
-	}
-	return true
 }
 
 // codeOf writes a code as the words say, of any value, whole or not.
@@ -607,16 +575,6 @@ func nested() api.Value {
 	return doc(names("a", "b"), array(number(1), doc(names("c"), array(number(2)))), doc(names("d", "e"), null, text("t")))
 }
 
-// spoil writes over all that v's lists hold, and the room behind them.
-func spoil(v api.Value) {
-	clear(v.Names[:cap(v.Names)])
-	items := v.Items[:cap(v.Items)]
-	for i := range items {
-		spoil(items[i])
-		items[i] = number(-999)
-	}
-}
-
 func TestNothingIsChanged(t *testing.T) {
 	v := nested()
 	items, all := [...]api.Value{nested(), null, number(7)}, names("x", "y", "z")
@@ -649,7 +607,7 @@ func TestAnswersAreNewMemory(t *testing.T) {
 	if !alike(v, nested()) || !alike(w, nested()) {
 		t.Error("what was decoded changes with its code")
 	}
-	spoil(w)
+	sample.Spoil(w)
 	if !alike(v, nested()) {
 		t.Error("two answers are one")
 	}
@@ -659,7 +617,7 @@ func TestAnswersAreNewMemory(t *testing.T) {
 		t.Error("an answer is kept")
 	}
 	v, _ = codec.Parse(`[[1,2],[1,2],{"a":[1,2]}]`)
-	spoil(v.Items[0])
+	sample.Spoil(v.Items[0])
 	v.Items[0].Items = append(v.Items[0].Items, null)
 	if !alike(v.Items[1], array(number(1), number(2))) || !alike(v.Items[2], doc(names("a"), array(number(1), number(2)))) {
 		t.Error("two lists of an answer are one")

@@ -7,6 +7,7 @@ import (
 	"testing"
 
 	"tributary/api"
+	"tributary/sample"
 	"tributary/value"
 )
 
@@ -82,13 +83,8 @@ func TestCompareOfWhatIsNotWhole(t *testing.T) {
 
 // P2.4: the order.
 
-// chance is a row of numbers that is always the same.
-type chance uint64
-
-func (c *chance) below(n int) int {
-	*c = *c*6364136223846793005 + 1442695040888963407
-	return int(uint64(*c)>>33) % n
-}
+// chance makes values, always the same.
+type chance struct{ sample.Chance }
 
 // any makes a value of few things, so that many are nearly the same; some may not be.
 func (c *chance) any(levels int) api.Value {
@@ -96,30 +92,30 @@ func (c *chance) any(levels int) api.Value {
 	if levels == 0 {
 		kinds = 5
 	}
-	v := api.Value{Kind: 1 + c.below(kinds)}
+	v := api.Value{Kind: 1 + c.Below(kinds)}
 	switch v.Kind {
 	case api.KindBool:
-		v.Int = c.below(2)
+		v.Int = c.Below(2)
 	case api.KindInt:
-		v.Int = []int{math.MinInt, -1, 0, 1, math.MaxInt}[c.below(5)]
+		v.Int = []int{math.MinInt, -1, 0, 1, math.MaxInt}[c.Below(5)]
 	case api.KindText, api.KindBytes:
-		v.Text = strings.Repeat("a", c.below(2)) + strings.Repeat("\xff", c.below(2))
+		v.Text = strings.Repeat("a", c.Below(2)) + strings.Repeat("\xff", c.Below(2))
 	case api.KindArray, api.KindDoc:
-		for i := range c.below(4) {
+		for i := range c.Below(4) {
 			v.Items = append(v.Items, c.any(levels-1))
 			if v.Kind == api.KindDoc {
-				v.Names = append(v.Names, string([]byte{'a' + byte(i*2+c.below(2))}))
+				v.Names = append(v.Names, string([]byte{'a' + byte(i*2+c.Below(2))}))
 			}
 		}
 	}
-	if c.below(40) == 0 {
+	if c.Below(40) == 0 {
 		v.Kind = 0
 	}
 	return v
 }
 
 func TestOrder(t *testing.T) {
-	c := chance(1)
+	c := chance{1}
 	l := rising()
 	for range 150 {
 		l = append(l, c.any(3))

@@ -7,32 +7,18 @@ import (
 	"testing"
 
 	"tributary/api"
+	"tributary/sample"
 	"tributary/value"
 )
 
-// array and doc put values together as they are, without the makers that are tested.
-func array(l ...api.Value) api.Value { return api.Value{Kind: api.KindArray, Items: l} }
+// Values are put together as they are, without the makers that are tested.
+var (
+	null, number  = sample.Null(), sample.Number
+	array, doc    = sample.Array, sample.Doc
+	within, alike = sample.Levels, sample.Alike
+)
 
-func doc(names []string, l ...api.Value) api.Value {
-	return api.Value{Kind: api.KindDoc, Names: names, Items: l}
-}
-
-func text(n int) api.Value { return api.Value{Kind: api.KindText, Text: strings.Repeat("x", n)} }
-
-func number(x int) api.Value { return api.Value{Kind: api.KindInt, Int: x} }
-
-func within(v api.Value, levels int) api.Value {
-	for i := range levels {
-		if i%2 == 0 {
-			v = array(v)
-		} else {
-			v = doc([]string{"a"}, v)
-		}
-	}
-	return v
-}
-
-var null = api.Value{Kind: api.KindNull}
+func text(n int) api.Value { return sample.Text(strings.Repeat("x", n)) }
 
 // names of one and of 32 and 33 bytes, and of any bytes but those that may not be.
 var goodNames = []string{"a", "_id", "0", " ", "\x00", "\xff", "a$", "\u00e9", strings.Repeat("n", 32), strings.Repeat("\u00e9", 16), "a\nb", "a$b"}
@@ -251,51 +237,20 @@ func TestClone(t *testing.T) {
 	}
 }
 
-// alike tells whether all fields of a and b are the same, also where they may not be; nil and the empty list are.
-func alike(a, b api.Value) bool {
-	if a.Kind != b.Kind || a.Int != b.Int || a.Text != b.Text || len(a.Items) != len(b.Items) || len(a.Names) != len(b.Names) {
-		return false
-	}
-	for i := range a.Names {
-		if a.Names[i] != b.Names[i] {
-			return false
-		}
-	}
-	for i := range a.Items {
-		if !alike(a.Items[i], b.Items[i]) {
-			return false
-		}
-	}
-	return true
-}
-
 // nested is a value with lists at three levels.
 func nested() api.Value {
 	return doc([]string{"a", "b"}, array(number(1), doc([]string{"c"}, array(number(2)))), doc([]string{"d", "e"}, null, text(1)))
 }
 
-// spoil writes over all that v's lists hold, and the room behind them.
-func spoil(v api.Value) {
-	names := v.Names[:cap(v.Names)]
-	for i := range names {
-		names[i] = "spoilt"
-	}
-	items := v.Items[:cap(v.Items)]
-	for i := range items {
-		spoil(items[i])
-		items[i] = number(-999)
-	}
-}
-
 func TestCloneSharesNothing(t *testing.T) {
 	v := nested()
 	c := value.Clone(v)
-	spoil(c)
+	sample.Spoil(c)
 	if !alike(v, nested()) {
 		t.Error("what is changed in a clone is changed in the value")
 	}
 	c = value.Clone(v)
-	spoil(v)
+	sample.Spoil(v)
 	if !alike(c, nested()) {
 		t.Error("what is changed in a value is changed in its clone")
 	}
@@ -359,12 +314,12 @@ func TestMadeOfListsOfTheirOwn(t *testing.T) {
 	names := []string{"x", "y", "z"}
 	wantArray, wantDoc := array(nested(), nested()), doc([]string{"x", "y"}, nested(), nested())
 	a, d := value.Array(l[:2]...), value.Doc(names[:2], l[:2]...)
-	spoil(value.Array(l[:2]...))
-	spoil(value.Doc(names[:2], l[:2]...))
+	sample.Spoil(value.Array(l[:2]...))
+	sample.Spoil(value.Doc(names[:2], l[:2]...))
 	if !alike(array(l...), array(nested(), nested(), number(7))) || !reflect.DeepEqual(names, []string{"x", "y", "z"}) {
 		t.Error("what is changed in a value is changed in what it was made of, or in the room behind that")
 	}
-	spoil(array(l...))
+	sample.Spoil(array(l...))
 	clear(names)
 	if !alike(a, wantArray) || !alike(d, wantDoc) {
 		t.Error("what is changed in what a value was made of is changed in the value")

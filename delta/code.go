@@ -1,0 +1,75 @@
+package delta
+
+import (
+	"tributary/api"
+	"tributary/codec"
+	"tributary/varint"
+)
+
+// Put answers b with the code of l behind it, if l is a list of changes.
+func Put(b []byte, l []api.Delta) []byte {
+	// A copy, so that the room behind b stays as it is.
+	out := append([]byte(nil), b...)
+	if Check(l) != api.OK {
+		return out
+	}
+	out = putCount(out, len(l))
+	for _, d := range l {
+		out = put(out, d)
+	}
+	return out
+}
+
+// Read answers the list whose code comes next; if there is none, s is bad.
+func Read(s *varint.Source) []api.Delta {
+	var l []api.Delta
+	for range s.Count(api.MaxDeltas) {
+		l = append(l, read(s))
+		if s.Bad() {
+			return nil
+		}
+	}
+	if Check(l) != api.OK {
+		s.Spoil()
+		return nil
+	}
+	return l
+}
+
+// put answers b with the code of d behind it, which may be.
+func put(b []byte, d api.Delta) []byte {
+	b = append(b, byte(d.Kind))
+	b = putCount(b, len(d.Path))
+	for _, step := range d.Path {
+		b = append(b, varint.Text(step)...)
+	}
+	switch d.Kind {
+	case api.DeltaSet:
+		code, _ := codec.Encode(d.Value)
+		return append(b, code...)
+	case api.DeltaCut:
+		return putCount(b, d.N)
+	}
+	return b
+}
+
+// read answers the change whose code comes next, whether it may be or not.
+func read(s *varint.Source) api.Delta {
+	d := api.Delta{Kind: s.Byte()}
+	for range s.Count(api.MaxSteps) {
+		d.Path = append(d.Path, s.Text(api.MaxName))
+	}
+	switch d.Kind {
+	case api.DeltaSet:
+		d.Value = codec.Read(s)
+	case api.DeltaCut:
+		d.N = s.Count(api.MaxIndex)
+	}
+	return d
+}
+
+// putCount answers b with the code of the length n behind it.
+func putCount(b []byte, n int) []byte {
+	code, _ := varint.Count(n)
+	return append(b, code...)
+}
