@@ -3,6 +3,7 @@ package delta
 import (
 	"tributary/api"
 	"tributary/codec"
+	"tributary/parts"
 	"tributary/varint"
 )
 
@@ -13,7 +14,7 @@ func Put(b []byte, l []api.Delta) []byte {
 	if Check(l) != api.OK {
 		return out
 	}
-	out = putCount(out, len(l))
+	out = parts.PutCount(out, len(l))
 	for _, d := range l {
 		out = put(out, d)
 	}
@@ -38,17 +39,13 @@ func Read(s *varint.Source) []api.Delta {
 
 // put answers b with the code of d behind it, which may be.
 func put(b []byte, d api.Delta) []byte {
-	b = append(b, byte(d.Kind))
-	b = putCount(b, len(d.Path))
-	for _, step := range d.Path {
-		b = append(b, varint.Text(step)...)
-	}
+	b = parts.PutPath(append(b, byte(d.Kind)), d.Path)
 	switch d.Kind {
 	case api.DeltaSet:
 		code, _ := codec.Encode(d.Value)
 		return append(b, code...)
 	case api.DeltaCut:
-		return putCount(b, d.N)
+		return parts.PutCount(b, d.N)
 	}
 	return b
 }
@@ -56,9 +53,7 @@ func put(b []byte, d api.Delta) []byte {
 // read answers the change whose code comes next, whether it may be or not.
 func read(s *varint.Source) api.Delta {
 	d := api.Delta{Kind: s.Byte()}
-	for range s.Count(api.MaxSteps) {
-		d.Path = append(d.Path, s.Text(api.MaxName))
-	}
+	d.Path = parts.ReadPath(s)
 	switch d.Kind {
 	case api.DeltaSet:
 		d.Value = codec.Read(s)
@@ -66,10 +61,4 @@ func read(s *varint.Source) api.Delta {
 		d.N = s.Count(api.MaxIndex)
 	}
 	return d
-}
-
-// putCount answers b with the code of the length n behind it.
-func putCount(b []byte, n int) []byte {
-	code, _ := varint.Count(n)
-	return append(b, code...)
 }

@@ -1,0 +1,31 @@
+// Package parts puts and reads what the codes of several layers have in common: lengths, and the steps of paths.
+package parts
+
+import (
+	"tributary/api"
+	"tributary/varint"
+)
+
+// PutCount answers b with the code of the length n behind it; as append does, it uses the room behind b.
+func PutCount(b []byte, n int) []byte {
+	code, _ := varint.Count(n)
+	return append(b, code...)
+}
+
+// PutPath answers b with the code of the path p behind it; as append does, it uses the room behind b.
+func PutPath(b []byte, p []string) []byte {
+	b = PutCount(b, len(p))
+	for _, step := range p {
+		b = append(b, varint.Text(step)...)
+	}
+	return b
+}
+
+// ReadPath answers the steps whose code comes next, whether they are a path or not.
+func ReadPath(s *varint.Source) []string {
+	var p []string
+	for range s.Count(api.MaxSteps) {
+		p = append(p, s.Text(api.MaxName))
+	}
+	return p
+}

@@ -1,0 +1,38 @@
+package parts_test
+
+import (
+	"slices"
+	"strings"
+	"testing"
+
+	"tributary/parts"
+	"tributary/varint"
+)
+
+func TestPut(t *testing.T) {
+	for n, want := range map[int]string{0: "\x00", 127: "\x7f", 128: "\x80\x01"} {
+		if got := parts.PutCount([]byte("b"), n); string(got) != "b"+want {
+			t.Errorf("PutCount(b, %d) = %q", n, got)
+		}
+	}
+	for p, want := range map[string]string{"a": "\x01\x01a", "a.bc.0": "\x03\x01a\x02bc\x010"} {
+		if got := parts.PutPath([]byte("b"), strings.Split(p, ".")); string(got) != "b"+want {
+			t.Errorf("PutPath(b, %s) = %q", p, got)
+		}
+	}
+}
+
+func TestReadPath(t *testing.T) {
+	for _, p := range [][]string{nil, {"a"}, {"a", "", "$", "a.b"}, {"1", "2", "3", "4", "5", "6", "7", strings.Repeat("n", 32)}} {
+		s := varint.From(append(parts.PutPath(nil, p), 9))
+		if got := parts.ReadPath(s); !slices.Equal(got, p) || s.Left() != 1 {
+			t.Errorf("%q is read as %q", p, got)
+		}
+	}
+	for _, p := range [][]string{slices.Repeat([]string{"a"}, 9), {"a", strings.Repeat("n", 33)}} {
+		s := varint.From(parts.PutPath(nil, p))
+		if parts.ReadPath(s); !s.Bad() {
+			t.Errorf("%q is read", p)
+		}
+	}
+}
