@@ -11,7 +11,7 @@ import (
 
 // P9.2: the power.
 
-// changes are one of each kind, none of which some's disk refuses; what they leave when the power goes at them, with 1 byte torn; and what that is behind a crash that keeps all.
+// changes are one of each kind, none of which the disk of some refuses, and the files that there are when the power went at it with 1 byte torn.
 var changes = []struct {
 	name string
 	do   func(d *files.Disk) api.Errno
