@@ -154,6 +154,50 @@ func cycle(t *testing.T, r *sample.Chance, d *files.Disk, k *kept, n int) {
 	}
 }
 
+// keeps are crashes that keep nothing, some, and all of what is not sure.
+var keeps = []func(d *files.Disk) []api.Keep{
+	func(d *files.Disk) []api.Keep { return nil },
+	func(d *files.Disk) []api.Keep {
+		l := keepAll(d)
+		for i := range l {
+			l[i].N = 5
+		}
+		return l
+	},
+	keepAll,
+}
+
+// TestCrashesAtEachChange has the power go at each change of each call, on logs that are sure and such that are not.
+func TestCrashesAtEachChange(t *testing.T) {
+	for _, c := range calls {
+		for n := range len(c.changes) + 1 {
+			for _, torn := range []int{0, 1, 5, 1 << 20} {
+				for _, keep := range keeps {
+					d, w := logOf(t, c.first, c.last)
+					k := &kept{first: c.first, bodies: numbered(c.first, c.last)}
+					k.sure = max(0, len(k.bodies)-1) / 8 * 8
+					if torn == 1 {
+						says(t, "Sync", w.Sync(), api.OK)
+						k.sure = len(k.bodies)
+					}
+					d.Stop(n, torn)
+					if e := c.call.does(w); e == api.OK {
+						k.done(c.call, w)
+					} else {
+						k.refused(c.call)
+					}
+					says(t, "Crash", d.Crash(keep(d)), api.OK)
+					w = open(t, d)
+					if first, bodies := w.First(), bodiesOf(t, w); !k.may(first, bodies) {
+						t.Errorf("%s, change %d, torn %d: the log has, from %d on, %.200q, which was %.200v", c.name, n, torn, first, bodies, *k)
+					}
+					has(t, open(t, d), w.First(), bodiesOf(t, w)...)
+				}
+			}
+		}
+	}
+}
+
 func TestLogsBehindCrashes(t *testing.T) {
 	r := sample.Chance(11)
 	d, k := files.New(), &kept{first: 1}

@@ -34,17 +34,17 @@ type left struct{ first, last int }
 var calls = []struct {
 	name        string
 	first, last int
-	do          func(w *wal.Log) api.Errno
+	call        call
 	changes     []change
 	left        []left
 }{
-	{"Append to an empty log", 1, 0, appendBody, []change{put("log00000001", ""), put("log00000001", framed("new"))}, []left{{1, 0}, {1, 0}}},
-	{"Append to one that begins anew", 20, 19, appendBody, []change{put("log00000020", framed("new"))}, []left{{20, 19}}},
-	{"Append", 1, 7, appendBody, []change{put("log00000001", framed("new"))}, []left{{1, 7}}},
-	{"Append to a full segment", 1, 8, appendBody, []change{sync("log00000001"), put("log00000009", ""), put("log00000009", framed("new"))}, []left{{1, 8}, {1, 8}, {1, 8}}},
-	{"Sync of nothing", 1, 0, (*wal.Log).Sync, nil, nil},
-	{"Sync of an empty segment", 5, 4, (*wal.Log).Sync, []change{sync("log00000005")}, []left{{5, 4}}},
-	{"Sync", 1, 20, (*wal.Log).Sync, []change{sync("log00000017")}, []left{{1, 20}}},
+	{"Append to an empty log", 1, 0, appendNew, []change{put("log00000001", ""), put("log00000001", framed("new"))}, []left{{1, 0}, {1, 0}}},
+	{"Append to one that begins anew", 20, 19, appendNew, []change{put("log00000020", framed("new"))}, []left{{20, 19}}},
+	{"Append", 1, 7, appendNew, []change{put("log00000001", framed("new"))}, []left{{1, 7}}},
+	{"Append to a full segment", 1, 8, appendNew, []change{sync("log00000001"), put("log00000009", ""), put("log00000009", framed("new"))}, []left{{1, 8}, {1, 8}, {1, 8}}},
+	{"Sync of nothing", 1, 0, syncAll, nil, nil},
+	{"Sync of an empty segment", 5, 4, syncAll, []change{sync("log00000005")}, []left{{5, 4}}},
+	{"Sync", 1, 20, syncAll, []change{sync("log00000017")}, []left{{1, 20}}},
 	{"CutBehind of nothing", 1, 0, cutBehind(0), nil, nil},
 	{"CutBehind the last one", 1, 5, cutBehind(5), []change{cut("log00000001", numbered(1, 5)...)}, []left{{1, 5}}},
 	{"CutBehind in the last segment", 1, 12, cutBehind(10), []change{cut("log00000009", numbered(9, 10)...)}, []left{{1, 12}}},
@@ -68,22 +68,16 @@ var calls = []struct {
 	},
 }
 
-func appendBody(w *wal.Log) api.Errno {
-	_, e := w.Append([]byte("new"))
-	return e
-}
+var (
+	appendNew = call{kind: "Append", body: "new"}
+	syncAll   = call{kind: "Sync"}
+)
 
-func cutBehind(i int) func(w *wal.Log) api.Errno {
-	return func(w *wal.Log) api.Errno { return w.CutBehind(i) }
-}
+func cutBehind(i int) call { return call{kind: "CutBehind", i: i} }
 
-func dropBelow(i int) func(w *wal.Log) api.Errno {
-	return func(w *wal.Log) api.Errno { return w.DropBelow(i) }
-}
+func dropBelow(i int) call { return call{kind: "DropBelow", i: i} }
 
-func begin(i int) func(w *wal.Log) api.Errno {
-	return func(w *wal.Log) api.Errno { return w.Begin(i) }
-}
+func begin(i int) call { return call{kind: "Begin", i: i} }
 
 // alike wants two disks to have the same files, as much of them sure, and both power or none.
 func alike(t *testing.T, what string, got, want *files.Disk) {
@@ -151,7 +145,7 @@ func TestThePowerGoesAtEachChange(t *testing.T) {
 					do(plain)
 				}
 				d.Stop(n, torn)
-				says(t, what, c.do(w), api.ErrOff)
+				says(t, what, c.call.does(w), api.ErrOff)
 				alike(t, what, d, plain)
 				want.reads(t, w)
 				isTorn(t, w)
@@ -173,7 +167,7 @@ func TestThePowerLastsForEachChange(t *testing.T) {
 			says(t, "a change", do(plain), api.OK)
 		}
 		d.Stop(len(c.changes), 0)
-		says(t, c.name, c.do(w), api.OK)
+		says(t, c.name, c.call.does(w), api.OK)
 		alike(t, c.name, d, plain)
 		says(t, "one more change", d.Append("more", nil), api.ErrOff)
 	}
@@ -189,7 +183,7 @@ func TestNoChangeWithoutPower(t *testing.T) {
 		if len(c.changes) > 0 {
 			want = api.ErrOff
 		}
-		says(t, c.name, c.do(w), want)
+		says(t, c.name, c.call.does(w), want)
 		left{c.first, c.last}.reads(t, w)
 	}
 }
@@ -233,10 +227,10 @@ func TestADiskWithoutRoom(t *testing.T) {
 }
 
 func TestASegmentThatIsGone(t *testing.T) {
-	for name, do := range map[string]func(w *wal.Log) api.Errno{"Sync": (*wal.Log).Sync, "CutBehind": cutBehind(9), "Begin": begin(1)} {
+	for _, c := range []call{syncAll, cutBehind(9), begin(1)} {
 		d, w := logOf(t, 1, 12)
 		d.Remove("log00000009")
-		says(t, name, do(w), api.ErrNone)
+		says(t, c.kind, c.does(w), api.ErrNone)
 		left{1, 12}.reads(t, w)
 		isTorn(t, w)
 	}
