@@ -7,6 +7,7 @@ import (
 	"tributary/api"
 	"tributary/codec"
 	"tributary/delta"
+	"tributary/sample"
 	"tributary/varint"
 )
 
@@ -156,27 +157,22 @@ func TestWhatWasPutIsRead(t *testing.T) {
 }
 
 func TestWhatIsReadHasThatCode(t *testing.T) {
-	var try func(b []byte, more int)
 	found := 0
-	try = func(b []byte, more int) {
-		l, left, ok := read(b)
+	ask := func(b string) {
+		l, left, ok := read([]byte(b))
 		if ok {
 			found++
-			if back := delta.Put(nil, l); !slices.Equal(back, b[:len(b)-left]) {
-				t.Fatalf("%v is read as %v, whose code is %v", b, l, back)
+			if back := delta.Put(nil, l); string(back) != b[:len(b)-left] {
+				t.Fatalf("%q is read as %v, whose code is %q", b, l, back)
 			}
 		} else if len(l) != 0 || left != 0 {
-			t.Fatalf("%v is read as %v, %d", b, l, left)
-		}
-		if more > 0 {
-			for _, c := range []byte{0, 1, 2, 3, 4, 'a', '.', 128, 255} {
-				try(append(slices.Clone(b), c), more-1)
-			}
+			t.Fatalf("%q is read as %v, %d", b, l, left)
 		}
 	}
-	try(nil, 5)
-	for _, head := range [][]byte{{1, 1, 1, 1, 'a'}, {1, 3, 1, 1, 'a'}, {2, 2, 1, 1, 'a'}, {1, 2, 2, 1, 'a'}} {
-		try(head, 4)
+	letters := "\x00\x01\x02\x03\x04a.\x80\xff"
+	sample.Behind("", letters, 5, ask)
+	for _, head := range []string{"\x01\x01\x01\x01a", "\x01\x03\x01\x01a", "\x02\x02\x01\x01a", "\x01\x02\x02\x01a"} {
+		sample.Behind(head, letters, 4, ask)
 	}
 	if found < 1000 {
 		t.Error("just so many codes:", found)

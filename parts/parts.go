@@ -1,4 +1,4 @@
-// Package parts puts and reads what the codes of several layers have in common: lengths, and the steps of paths.
+// Package parts is what the layers that put values, changes and requests together have in common: the codes of lengths and of the steps of paths, and what is no value.
 package parts
 
 import (
@@ -28,4 +28,9 @@ func ReadPath(s *varint.Source) []string {
 		p = append(p, s.Text(api.MaxName))
 	}
 	return p
+}
+
+// None tells whether v is {}.
+func None(v api.Value) bool {
+	return v.Kind == 0 && v.Int == 0 && v.Text == "" && len(v.Items) == 0 && len(v.Names) == 0
 }

@@ -5,6 +5,7 @@ import (
 	"strings"
 	"testing"
 
+	"tributary/api"
 	"tributary/parts"
 	"tributary/varint"
 )
@@ -33,6 +34,19 @@ func TestReadPath(t *testing.T) {
 		s := varint.From(parts.PutPath(nil, p))
 		if parts.ReadPath(s); !s.Bad() {
 			t.Errorf("%q is read", p)
+		}
+	}
+}
+
+func TestNone(t *testing.T) {
+	for _, v := range []api.Value{{}, {Items: []api.Value{}, Names: []string{}}} {
+		if !parts.None(v) {
+			t.Errorf("%v is {}", v)
+		}
+	}
+	for _, v := range []api.Value{{Kind: api.KindNull}, {Kind: -1}, {Int: 1}, {Text: "a"}, {Items: []api.Value{{}}}, {Names: []string{""}}} {
+		if parts.None(v) {
+			t.Errorf("%v is not {}", v)
 		}
 	}
 }

@@ -157,8 +157,7 @@ func TestWhatWasPutIsRead(t *testing.T) {
 
 func TestWhatIsReadHasThatCode(t *testing.T) {
 	found := 0
-	var try func(b string, more int)
-	try = func(b string, more int) {
+	ask := func(b string) {
 		got, left, ok := read(b)
 		if ok {
 			found++
@@ -168,15 +167,9 @@ func TestWhatIsReadHasThatCode(t *testing.T) {
 		} else if left != 0 || !alike(got, api.Spec{}) {
 			t.Fatalf("%q is read as %s, %d", b, show(got), left)
 		}
-		if more > 0 {
-			for _, c := range "\x00\x01\x02\x03\x06\x07\x08a.\u0080" {
-				try(b+string([]byte{byte(c)}), more-1)
-			}
-		}
 	}
-	try("", 4)
-	for _, head := range []string{"\x01\x07\x01", "\x00\x01", "\x00\x01\x02\x01\x01", "\x00\x01\x06\x01\x01b", "\x00\x01\x03\x01\x01a", "\x00\x02\x02\x01\x01a"} {
-		try(head, 4)
+	for _, head := range []string{"", "\x01\x07\x01", "\x00\x01", "\x00\x01\x02\x01\x01", "\x00\x01\x06\x01\x01b", "\x00\x01\x03\x01\x01a", "\x00\x02\x02\x01\x01a"} {
+		sample.Behind(head, "\x00\x01\x02\x03\x06\x07\x08a.\x80", 4, ask)
 	}
 	if found < 1000 {
 		t.Error("just so many codes:", found)
