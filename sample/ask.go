@@ -1,0 +1,58 @@
+package sample
+
+import "tributary/api"
+
+// AskInsert answers a request to insert a document.
+func AskInsert(coll string, doc api.Value) api.Ask {
+	return api.Ask{Kind: api.AskInsert, Coll: coll, Doc: doc}
+}
+
+// AskUpdate answers a request to change a document.
+func AskUpdate(coll string, id api.Value, s api.Spec) api.Ask {
+	return api.Ask{Kind: api.AskUpdate, Coll: coll, Id: id, Spec: s}
+}
+
+// AskUpsert answers a request to change a document, or to insert it.
+func AskUpsert(coll string, id api.Value, s api.Spec) api.Ask {
+	return api.Ask{Kind: api.AskUpsert, Coll: coll, Id: id, Spec: s}
+}
+
+// AskDelete answers a request to delete a document.
+func AskDelete(coll string, id api.Value) api.Ask {
+	return api.Ask{Kind: api.AskDelete, Coll: coll, Id: id}
+}
+
+// AskCreate answers a request to make a collection.
+func AskCreate(coll string) api.Ask { return api.Ask{Kind: api.AskCreate, Coll: coll} }
+
+// AskDrop answers a request to drop a collection.
+func AskDrop(coll string) api.Ask { return api.Ask{Kind: api.AskDrop, Coll: coll} }
+
+// AskRename answers a request to give a collection another name.
+func AskRename(coll, to string) api.Ask {
+	return api.Ask{Kind: api.AskRename, Coll: coll, To: to}
+}
+
+// AskBy answers the request as a session's one of that number.
+func AskBy(a api.Ask, session, number int) api.Ask {
+	a.Session, a.Number = session, number
+	return a
+}
+
+// RoomyAsk answers the same request in lists of its own that have more room, in which something lies.
+func RoomyAsk(a api.Ask) api.Ask {
+	a.Id, a.Doc, a.Spec = Roomy(a.Id), Roomy(a.Doc), RoomySpec(a.Spec)
+	return a
+}
+
+// UntouchedAsk tells whether a is still what RoomyAsk made of was, its spare room too.
+func UntouchedAsk(a, was api.Ask) bool {
+	return Untouched(a.Id, was.Id) && Untouched(a.Doc, was.Doc) && UntouchedSpec(a.Spec, was.Spec)
+}
+
+// SpoilAsk changes all that the request's lists hold, their spare room too.
+func SpoilAsk(a api.Ask) {
+	Spoil(a.Id)
+	Spoil(a.Doc)
+	SpoilSpec(a.Spec)
+}
