@@ -261,21 +261,6 @@ func TestDoAndBeforeKeepNothing(t *testing.T) {
 
 // All of it, by requests that chance makes, always the same ones.
 
-// anyAsk makes a request, mostly of what there is, from few names, ids and updates.
-func anyAsk(chance *sample.Chance, all []api.Spec) api.Ask {
-	names := func() string { return []string{"c", "d", "e", "f", "$", ""}[chance.Below(4+2*chance.Below(8)/7)] }
-	ids := []api.Value{null, number(1), number(2), text("t"), array(null), one("k", null), deep(7), {}}
-	a := api.Ask{Kind: 1 + chance.Below(4), Coll: names(), To: names(), Id: ids[chance.Below(6+2*chance.Below(5)/4)], Session: 1 + chance.Below(3), Number: 1 + chance.Below(9)}
-	if chance.Below(5) == 0 {
-		a.Kind = 5 + chance.Below(3)
-	}
-	a.Doc, a.Spec = item(a.Id, []api.Value{null, number(5), array(null), deep(7)}[chance.Below(4)]), all[chance.Below(len(all))]
-	if chance.Below(20) == 0 {
-		a.Doc = one("a", null)
-	}
-	return a
-}
-
 // plainly tells of each collection its documents, by the texts of their ids.
 func plainly(d *coll.DB) map[string]map[string]string {
 	p := map[string]map[string]string{}
@@ -310,7 +295,7 @@ func TestRequestsByChance(t *testing.T) {
 	var history []api.Entry
 	d := coll.New()
 	for i := range 20000 {
-		a := anyAsk(&chance, all)
+		a := chance.Ask(all)
 		e, no := lower(t, d, a)
 		found[fmt.Sprint(a.Kind, " ", no)]++
 		if no != api.OK {

@@ -19,6 +19,7 @@ import (
 var (
 	null, number, text, bytes = sample.Null(), sample.Number, sample.Text, sample.Bytes
 	array, doc, one, deep     = sample.Array, sample.Doc, sample.One, sample.Deep
+	item                      = sample.Item
 	op, ops, unset, renamed   = sample.Op, sample.Ops, sample.Unset, sample.Rename
 	replace                   = sample.Replace
 	set, drop, cut            = sample.Set, sample.Drop, sample.Cut
@@ -31,11 +32,6 @@ func letters(n int) string { return strings.Repeat("x", n) }
 
 // show is how a failed test tells of what may be long.
 func show(x any) string { return fmt.Sprintf("%.300s", fmt.Sprint(x)) }
-
-// item answers a document of an id, and perhaps an item a.
-func item(id api.Value, a ...api.Value) api.Value {
-	return doc([]string{"_id", "a"}[:1+len(a)], append([]api.Value{id}, a...)...)
-}
 
 // want asks for an error's number.
 func want(t *testing.T, what string, e, want api.Errno) {

@@ -14,10 +14,10 @@ func (d *DB) Code() []byte {
 	if !d.made() {
 		return nil
 	}
-	b := parts.PutCount(nil, len(d.colls))
+	b := parts.PutCounts(nil, len(d.colls))
 	for _, name := range d.Names() {
 		l := d.colls[name]
-		b = parts.PutCount(append(b, varint.Text(name)...), len(l))
+		b = parts.PutCounts(append(b, varint.Text(name)...), len(l))
 		for v := range l.all() {
 			code, _ := codec.Encode(v)
 			b = append(b, code...)

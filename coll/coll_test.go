@@ -15,6 +15,7 @@ import (
 var (
 	null, number, text, bytes = sample.Null(), sample.Number, sample.Text, sample.Bytes
 	array, doc, one, deep     = sample.Array, sample.Doc, sample.One, sample.Deep
+	item                      = sample.Item
 	alike, none               = sample.Alike, sample.None
 )
 
@@ -22,11 +23,6 @@ func letters(n int) string { return strings.Repeat("x", n) }
 
 // show is how a failed test tells of what may be long.
 func show(x any) string { return fmt.Sprintf("%.300s", fmt.Sprint(x)) }
-
-// item answers a document of an id, and perhaps an item a.
-func item(id api.Value, a ...api.Value) api.Value {
-	return doc([]string{"_id", "a"}[:1+len(a)], append([]api.Value{id}, a...)...)
-}
 
 // badNames are what is no collection's name.
 var badNames = []string{"", "$", "c$", "\x00", "c\x00d", letters(33)}

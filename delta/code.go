@@ -14,7 +14,7 @@ func Put(b []byte, l []api.Delta) []byte {
 	if Check(l) != api.OK {
 		return out
 	}
-	out = parts.PutCount(out, len(l))
+	out = parts.PutCounts(out, len(l))
 	for _, d := range l {
 		out = put(out, d)
 	}
@@ -45,7 +45,7 @@ func put(b []byte, d api.Delta) []byte {
 		code, _ := codec.Encode(d.Value)
 		return append(b, code...)
 	case api.DeltaCut:
-		return parts.PutCount(b, d.N)
+		return parts.PutCounts(b, d.N)
 	}
 	return b
 }

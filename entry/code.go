@@ -38,9 +38,8 @@ func Read(s *varint.Source) api.Entry {
 
 // put answers the code of e, which may be.
 func put(e api.Entry) []byte {
-	b := append(parts.PutCount(nil, e.Term), byte(e.Kind))
-	b = parts.PutCount(b, e.Session)
-	b = parts.PutCount(b, e.Number)
+	b := append(parts.PutCounts(nil, e.Term), byte(e.Kind))
+	b = parts.PutCounts(b, e.Session, e.Number)
 	l, _ := fieldsOf(e.Kind)
 	if l.has(coll) {
 		b = append(b, varint.Text(e.Coll)...)

@@ -18,10 +18,7 @@ func (m *Images) Code() []byte {
 	if m == nil {
 		return nil
 	}
-	var b []byte
-	for _, n := range [...]int{m.keep, m.base, m.top} {
-		b = parts.PutCount(b, n)
-	}
+	b := parts.PutCounts(nil, m.keep, m.base, m.top)
 	for i := m.first(); i <= m.top; i++ {
 		b = putKept(b, m.ring[m.place(i)])
 	}

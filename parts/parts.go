@@ -1,4 +1,4 @@
-// Package parts is what the layers that put values, changes and requests together have in common: the codes of lengths and of the steps of paths, and what is no value.
+// Package parts is what the layers that put codes together have in common: the codes of counts and of the steps of paths, the bytes of sums, and what is no value.
 package parts
 
 import (
@@ -6,15 +6,33 @@ import (
 	"tributary/varint"
 )
 
-// PutCount answers b with the code of the length n behind it; as append does, it uses the room behind b.
-func PutCount(b []byte, n int) []byte {
-	code, _ := varint.Count(n)
-	return append(b, code...)
+const bitsOfByte = 8
+
+// PutCounts answers b with the codes of counts behind it; as append does, it uses the room behind b.
+func PutCounts(b []byte, counts ...int) []byte {
+	for _, n := range counts {
+		code, _ := varint.Count(n)
+		b = append(b, code...)
+	}
+	return b
+}
+
+// SumSize is how many bytes a sum has in a code.
+const SumSize = 4
+
+// SumBytes answers the bytes of a sum in a code, the lowest one first.
+func SumBytes(sum int) [SumSize]byte {
+	var b [SumSize]byte
+	for i := range b {
+		b[i] = byte(sum)
+		sum >>= bitsOfByte
+	}
+	return b
 }
 
 // PutPath answers b with the code of the path p behind it; as append does, it uses the room behind b.
 func PutPath(b []byte, p []string) []byte {
-	b = PutCount(b, len(p))
+	b = PutCounts(b, len(p))
 	for _, step := range p {
 		b = append(b, varint.Text(step)...)
 	}

@@ -12,13 +12,27 @@ import (
 
 func TestPut(t *testing.T) {
 	for n, want := range map[int]string{0: "\x00", 127: "\x7f", 128: "\x80\x01"} {
-		if got := parts.PutCount([]byte("b"), n); string(got) != "b"+want {
-			t.Errorf("PutCount(b, %d) = %q", n, got)
+		if got := parts.PutCounts([]byte("b"), n); string(got) != "b"+want {
+			t.Errorf("PutCounts(b, %d) = %q", n, got)
 		}
+		if got := parts.PutCounts([]byte("b"), n, 5, n); string(got) != "b"+want+"\x05"+want {
+			t.Errorf("PutCounts(b, %d, 5, %d) = %q", n, n, got)
+		}
+	}
+	if got := parts.PutCounts([]byte("b")); string(got) != "b" {
+		t.Errorf("PutCounts(b) = %q", got)
 	}
 	for p, want := range map[string]string{"a": "\x01\x01a", "a.bc.0": "\x03\x01a\x02bc\x010"} {
 		if got := parts.PutPath([]byte("b"), strings.Split(p, ".")); string(got) != "b"+want {
 			t.Errorf("PutPath(b, %s) = %q", p, got)
+		}
+	}
+}
+
+func TestSumBytes(t *testing.T) {
+	for sum, want := range map[int]string{0: "\x00\x00\x00\x00", 0x04030201: "\x01\x02\x03\x04", 0xFFFEFDFC: "\xfc\xfd\xfe\xff"} {
+		if got := parts.SumBytes(sum); string(got[:]) != want {
+			t.Errorf("SumBytes(%#x) = %q", sum, got)
 		}
 	}
 }

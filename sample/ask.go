@@ -56,3 +56,18 @@ func SpoilAsk(a api.Ask) {
 	Spoil(a.Doc)
 	SpoilSpec(a.Spec)
 }
+
+// Ask answers a request, mostly of what there is, from few names and ids, and these updates.
+func (c *Chance) Ask(all []api.Spec) api.Ask {
+	names := func() string { return []string{"c", "d", "e", "f", "$", ""}[c.Below(4+2*c.Below(8)/7)] }
+	ids := []api.Value{Null(), Number(1), Number(2), Text("t"), Array(Null()), One("k", Null()), Deep(7), {}}
+	a := api.Ask{Kind: 1 + c.Below(4), Coll: names(), To: names(), Id: ids[c.Below(6+2*c.Below(5)/4)], Session: 1 + c.Below(3), Number: 1 + c.Below(9)}
+	if c.Below(5) == 0 {
+		a.Kind = 5 + c.Below(3)
+	}
+	a.Doc, a.Spec = Item(a.Id, []api.Value{Null(), Number(5), Array(Null()), Deep(7)}[c.Below(4)]), all[c.Below(len(all))]
+	if c.Below(20) == 0 {
+		a.Doc = One("a", Null())
+	}
+	return a
+}

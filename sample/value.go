@@ -30,6 +30,11 @@ func Doc(names []string, l ...api.Value) api.Value {
 // One answers a document of one item.
 func One(name string, v api.Value) api.Value { return Doc([]string{name}, v) }
 
+// Item answers a document of an id, and perhaps an item a.
+func Item(id api.Value, a ...api.Value) api.Value {
+	return Doc([]string{api.IdName, "a"}[:1+len(a)], append([]api.Value{id}, a...)...)
+}
+
 // Within answers v laid at the steps p, in documents of one item each.
 func Within(v api.Value, p ...string) api.Value {
 	for _, step := range slices.Backward(p) {

@@ -23,7 +23,7 @@ func Put(b []byte, s api.Spec) []byte {
 	case s.Replace:
 		return putValue(append(out, replaceMark), s.Doc)
 	}
-	out = parts.PutCount(append(out, opsMark), len(s.Ops))
+	out = parts.PutCounts(append(out, opsMark), len(s.Ops))
 	for _, o := range s.Ops {
 		out = put(out, o)
 	}
