@@ -1,7 +1,9 @@
-// Package parts is what the layers that put codes together have in common: the codes of counts and of the steps of paths, the bytes of sums, and what is no value.
+// Package parts is what the layers that put codes together have in common: the codes of counts and of the steps of paths, the bytes of sums, what is no value, and which values are alike.
 package parts
 
 import (
+	"slices"
+
 	"tributary/api"
 	"tributary/varint"
 )
@@ -51,4 +53,9 @@ func ReadPath(s *varint.Source) []string {
 // None tells whether v is {}.
 func None(v api.Value) bool {
 	return v.Kind == 0 && v.Int == 0 && v.Text == "" && len(v.Items) == 0 && len(v.Names) == 0
+}
+
+// Alike tells whether all fields of a and b are the same: values that may not be have no order by which they could differ.
+func Alike(a, b api.Value) bool {
+	return a.Kind == b.Kind && a.Int == b.Int && a.Text == b.Text && slices.Equal(a.Names, b.Names) && slices.EqualFunc(a.Items, b.Items, Alike)
 }

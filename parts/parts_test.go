@@ -7,6 +7,7 @@ import (
 
 	"tributary/api"
 	"tributary/parts"
+	"tributary/value"
 	"tributary/varint"
 )
 
@@ -62,5 +63,24 @@ func TestNone(t *testing.T) {
 		if parts.None(v) {
 			t.Errorf("%v is not {}", v)
 		}
+	}
+}
+
+func TestAlike(t *testing.T) {
+	null := api.Value{Kind: api.KindNull}
+	l := []api.Value{
+		{}, null, {Kind: 8}, {Kind: -1}, {Int: 1}, {Int: -1}, {Kind: 8, Int: 1}, {Text: "a"}, {Text: "ab"}, {Kind: api.KindText, Text: "a"}, {Kind: api.KindBytes, Text: "a"},
+		{Items: []api.Value{{}}}, {Items: []api.Value{{}, {}}}, {Items: []api.Value{{Int: 1}}}, {Items: []api.Value{{Items: []api.Value{{}}}}}, {Names: []string{""}}, {Names: []string{"a"}}, {Names: []string{"a", "b"}}, {Names: []string{"b", "a"}},
+		{Kind: api.KindDoc, Names: []string{"a"}, Items: []api.Value{null}}, {Kind: api.KindDoc, Names: []string{"b"}, Items: []api.Value{null}}, {Kind: api.KindDoc, Names: []string{"a"}, Items: []api.Value{{}}}, {Kind: api.KindArray, Items: []api.Value{null}},
+	}
+	for i, a := range l {
+		for k, b := range l {
+			if got := parts.Alike(a, value.Clone(b)); got != (i == k) {
+				t.Errorf("Alike(%v, %v) = %v", a, b, got)
+			}
+		}
+	}
+	if !parts.Alike(api.Value{Items: []api.Value{}, Names: []string{}}, api.Value{}) {
+		t.Error("empty lists are not as none")
 	}
 }
