@@ -4,6 +4,7 @@ import (
 	"slices"
 
 	"tributary/api"
+	"tributary/parts"
 	"tributary/path"
 	"tributary/tree"
 	"tributary/value"
@@ -29,7 +30,7 @@ func (d *DB) Select(name string, q api.Query) ([]api.Value, api.Errno) {
 		slices.Reverse(found)
 	}
 	found = found[min(q.Skip, len(found)):]
-	return cloneAll(found[:min(q.Most, len(found))]), api.OK
+	return parts.CopyEach(found[:min(q.Most, len(found))], value.Clone), api.OK
 }
 
 // Count answers of how many documents of a collection c holds.
@@ -74,13 +75,4 @@ func sorted(l []api.Value, p []string) []api.Value {
 		l[i] = x.whole
 	}
 	return l
-}
-
-// cloneAll answers the same documents, of lists of their own.
-func cloneAll(l []api.Value) []api.Value {
-	out := slices.Clone(l)
-	for i, v := range out {
-		out[i] = value.Clone(v)
-	}
-	return out
 }

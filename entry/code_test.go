@@ -205,11 +205,7 @@ func TestAnyBytes(t *testing.T) {
 	for _, c := range coded() {
 		sample.Changed(c.b, ask)
 		for range 500 {
-			b := []byte(c.b)
-			for range 1 + chance.Below(3) {
-				b[chance.Below(len(b))] = byte(chance.Below(256))
-			}
-			ask(string(b))
+			ask(chance.Change(c.b))
 		}
 	}
 	for range 20000 {

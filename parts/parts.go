@@ -1,4 +1,4 @@
-// Package parts is what the layers that put codes together have in common: the codes of counts and of the steps of paths, the bytes of sums, what is no value, and which values are alike.
+// Package parts is what several layers have in common: the codes of counts and of the steps of paths, the bytes of sums, what is no value, which values are alike, and copies of lists whose items have lists.
 package parts
 
 import (
@@ -58,4 +58,16 @@ func None(v api.Value) bool {
 // Alike tells whether all fields of a and b are the same: values that may not be have no order by which they could differ.
 func Alike(a, b api.Value) bool {
 	return a.Kind == b.Kind && a.Int == b.Int && a.Text == b.Text && slices.Equal(a.Names, b.Names) && slices.EqualFunc(a.Items, b.Items, Alike)
+}
+
+// CopyEach answers a list of what clone answers of each item of l.
+func CopyEach[T any](l []T, clone func(x T) T) []T {
+	if len(l) == 0 {
+		return nil
+	}
+	out := make([]T, len(l))
+	for i, x := range l {
+		out[i] = clone(x)
+	}
+	return out
 }

@@ -84,3 +84,26 @@ func TestAlike(t *testing.T) {
 		t.Error("empty lists are not as none")
 	}
 }
+
+func TestCopyEach(t *testing.T) {
+	longer := func(s string) string { return s + "x" }
+	room := []string{"a", "b", "room"}
+	got := parts.CopyEach(room[:2], longer)
+	if !slices.Equal(got, []string{"ax", "bx"}) {
+		t.Errorf("CopyEach = %q", got)
+	}
+	clear(got[:cap(got)])
+	if !slices.Equal(room, []string{"a", "b", "room"}) {
+		t.Errorf("what was copied is %q", room)
+	}
+	for _, l := range [][]int{nil, {}, make([]int, 0, 5)} {
+		if got := parts.CopyEach(l, func(x int) int { return x }); len(got) != 0 || cap(got) != 0 {
+			t.Errorf("of nothing CopyEach makes %v", got)
+		}
+	}
+	nested := [][]byte{{1, 2}, nil, {3}}
+	other := parts.CopyEach(nested, slices.Clone)
+	if other[0][1], other[2][0] = 9, 9; !slices.EqualFunc(nested, [][]byte{{1, 2}, nil, {3}}, slices.Equal) || len(other) != 3 {
+		t.Errorf("what was copied is %v", nested)
+	}
+}

@@ -1,5 +1,7 @@
 package sample
 
+import "bytes"
+
 // Behind shows head, and all that is made of it with up to so many more of the bytes of letters behind it.
 func Behind(head, letters string, more int, show func(b string)) {
 	show(head)
@@ -29,4 +31,22 @@ func (c *Chance) Bytes(most int) string {
 		b[i] = byte(c.Below(bound))
 	}
 	return string(b)
+}
+
+// Change answers b, which is not empty, with up to three of its bytes changed.
+func (c *Chance) Change(b string) string {
+	out := []byte(b)
+	for range 1 + c.Below(3) {
+		out[c.Below(len(out))] = byte(c.Below(256))
+	}
+	return string(out)
+}
+
+// RoomyBytes answers the same bytes in a list that has more room, in which something lies.
+func RoomyBytes(b []byte) []byte { return append(append([]byte(nil), b...), "room"...)[:len(b)] }
+
+// UntouchedBytes tells whether b is still what RoomyBytes made of was, its spare room too.
+func UntouchedBytes(b, was []byte) bool {
+	room := RoomyBytes(was)
+	return bytes.Equal(b, was) && bytes.Equal(b[:cap(b)], room[:cap(room)])
 }

@@ -14,15 +14,13 @@ func AlikeEvents(a, b api.Event) bool {
 
 // RoomyEvent answers the same event in lists of its own that have more room, in which something lies.
 func RoomyEvent(v api.Event) api.Event {
-	v.Id, v.Deltas, v.Pre, v.Post = Roomy(v.Id), RoomyDeltas(v.Deltas), Roomy(v.Pre), Roomy(v.Post)
-	v.Token = append(append([]byte(nil), v.Token...), "room"...)[:len(v.Token)]
+	v.Id, v.Deltas, v.Pre, v.Post, v.Token = Roomy(v.Id), RoomyDeltas(v.Deltas), Roomy(v.Pre), Roomy(v.Post), RoomyBytes(v.Token)
 	return v
 }
 
 // UntouchedEvent tells whether v is still what RoomyEvent made of was, its spare room too.
 func UntouchedEvent(v, was api.Event) bool {
-	room := RoomyEvent(was)
-	return Untouched(v.Id, was.Id) && UntouchedDeltas(v.Deltas, was.Deltas) && Untouched(v.Pre, was.Pre) && Untouched(v.Post, was.Post) && bytes.Equal(v.Token[:cap(v.Token)], room.Token[:cap(room.Token)])
+	return Untouched(v.Id, was.Id) && UntouchedDeltas(v.Deltas, was.Deltas) && Untouched(v.Pre, was.Pre) && Untouched(v.Post, was.Post) && UntouchedBytes(v.Token, was.Token)
 }
 
 // SpoilEvent changes all that the event's lists hold, their spare room too.

@@ -1,4 +1,4 @@
-// Package sample makes values, changes, updates, requests, entries, events and conditions for the tests of all layers, and tells whether they are alike and whether their memory was touched. It calls no layer, so that it says nothing because one of them does.
+// Package sample makes values, changes, updates, requests, entries, events, messages and conditions for the tests of all layers, and tells whether they are alike and whether their memory was touched. It calls no layer, so that it says nothing because one of them does.
 package sample
 
 import (

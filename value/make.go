@@ -1,10 +1,13 @@
 package value
 
-import "tributary/api"
+import (
+	"tributary/api"
+	"tributary/parts"
+)
 
 // Clone answers the same value, of lists of its own.
 func Clone(v api.Value) api.Value {
-	v.Items = cloneAll(v.Items)
+	v.Items = parts.CopyEach(v.Items, Clone)
 	v.Names = copyNames(v.Names)
 	return v
 }
@@ -39,24 +42,12 @@ func Bytes(b []byte) api.Value {
 
 // Array answers an array of the values l.
 func Array(l ...api.Value) api.Value {
-	return api.Value{Kind: api.KindArray, Items: cloneAll(l)}
+	return api.Value{Kind: api.KindArray, Items: parts.CopyEach(l, Clone)}
 }
 
 // Doc answers a document of the values l by names.
 func Doc(names []string, l ...api.Value) api.Value {
-	return api.Value{Kind: api.KindDoc, Items: cloneAll(l), Names: copyNames(names)}
-}
-
-// cloneAll answers the same values, of lists of their own.
-func cloneAll(l []api.Value) []api.Value {
-	if len(l) == 0 {
-		return nil
-	}
-	out := make([]api.Value, len(l))
-	for i, v := range l {
-		out[i] = Clone(v)
-	}
-	return out
+	return api.Value{Kind: api.KindDoc, Items: parts.CopyEach(l, Clone), Names: copyNames(names)}
 }
 
 // copyNames answers the same names in a list of its own.
